@@ -1,0 +1,1 @@
+"""AppendedOnce: a replicated append-only file store."""
