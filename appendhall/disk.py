@@ -1,7 +1,7 @@
 """A disk: a row of blocks, with writes that are pending until a sync."""
 
 from appendhall.errors import BadBlock, BadValue, PowerLoss
-from appendhall.values import is_integer, is_number, is_text
+from appendhall.values import is_number, is_plain
 
 _BLOCK_MOST = 12
 _BLANK = ()
@@ -119,10 +119,7 @@ class Disk:
 def _is_block(thing):
     if not isinstance(thing, tuple) or len(thing) > _BLOCK_MOST:
         return False
-    for item in thing:
-        if not is_integer(item) and not is_text(item):
-            return False
-    return True
+    return all([is_plain(item) for item in thing])
 
 
 def _check_index(at):

@@ -26,14 +26,16 @@ def is_text(thing):
     """Tell whether any object is a text."""
     if not isinstance(thing, str) or len(thing) > TEXT_MOST:
         return False
-    for char in thing:
-        if not _may_stand_in_text(ord(char)):
-            return False
-    return True
+    return all([_may_stand_in_text(ord(char)) for char in thing])
 
 
 def _may_stand_in_text(code):
     return ord(" ") <= code <= ord("~") and code != _PERCENT
+
+
+def is_plain(thing):
+    """Tell whether any object is an integer or a text."""
+    return is_integer(thing) or is_text(thing)
 
 
 def is_value(thing):
@@ -43,9 +45,10 @@ def is_value(thing):
 
 def _is_value_within(thing, levels):
     if not isinstance(thing, tuple):
-        return is_integer(thing) or is_text(thing)
+        return is_plain(thing)
     if levels == 0:
         return False
+    # Items may be one object again and again, so the first wrong one must end the search.
     for item in thing:
         if not _is_value_within(item, levels - 1):
             return False

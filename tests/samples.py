@@ -63,11 +63,11 @@ def nested(levels, core=5):
     return thing
 
 
-def doubled(levels, core=5):
+def doubled(levels, core=5, width=2):
     """A tuple whose items are one object, on each level: small, but vast if it is written out."""
     thing = core
     for _ in range(levels):
-        thing = (thing, thing)
+        thing = (thing,) * width
     return thing
 
 

@@ -14,6 +14,12 @@ FUNCTIONS = {
         "frame_blocks": "(generation, number, words)",
         "read_frame": "(disk, at, generation, number)",
     },
+    "records": {"is_deed": "(thing)", "is_record": "(thing)"},
+    "quorum": {
+        "majority": "(count)", "has_majority": "(members, count)", "commit_point": "(matched, count)",
+        "best": "(candidates)",
+    },
+    "paths": {"split_path": "(path)", "join_path": "(names)", "is_within": "(path, other)"},
 }
 
 CLASSES = {
@@ -23,6 +29,31 @@ CLASSES = {
             "lose_power": "(self, fates)", "arm": "(self, fates, *, after=0)", "disarm": "(self)",
             "stored": "(self)", "clone": "(self)",
             "pending": property, "armed": property, "extent": property,
+        },
+    },
+    "tape": {
+        "Tape": {
+            "__init__": "(self, disk)", "append": "(self, value)", "sync": "(self)", "rewrite": "(self, values)",
+            "entries": "(self)", "__len__": "(self)", "__iter__": "(self)",
+            "generation": property, "end": property,
+        },
+    },
+    "log": {
+        "Log": {
+            "__init__": "(self, base, image, records)", "__len__": "(self)", "__iter__": "(self)",
+            "record": "(self, number)", "after": "(self, number)", "with_record": "(self, record)",
+            "joined": "(self, first, records)", "cut": "(self, number, image)", "agrees": "(self, other)",
+            "value": "(self)", "from_value": "static (value)", "length": property,
+        },
+    },
+    "nodes": {
+        "File": {
+            "__init__": "(self)", "add_piece": "(self, piece)", "seal": "(self)", "sealed_copy": "(self)",
+            "pieces": property, "sealed": property, "length": property,
+        },
+        "Directory": {
+            "__init__": "(self)", "set_limit": "(self, most)", "names": "(self)", "child": "(self, name)",
+            "put": "(self, name, number)", "take": "(self, name)", "limit": property,
         },
     },
 }

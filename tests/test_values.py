@@ -80,6 +80,8 @@ class ValuesTest(unittest.TestCase):
     def test_1_3_tuples_that_share_their_items(self):
         self.assertIs(is_value(doubled(10)), True)
         self.assertIs(is_value(doubled(60)), False)
+        self.assertIs(is_value(doubled(60, width=40)), False)
+        self.assertIs(is_value(doubled(12, None, width=40)), False)
         self.assertIs(is_value((1, doubled(59))), False)
         self.assertIs(is_value((doubled(5), None)), False)
 
