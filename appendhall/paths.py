@@ -2,8 +2,9 @@
 
 from appendhall.errors import BadPath
 
+NAMES_MOST = 6
+
 _ROOT = "/"
-_NAMES_MOST = 6
 _NAME_MOST = 12
 _NAME_CHARS = ".-abcdefghijklmnopqrstuvwxyz0123456789"
 
@@ -27,6 +28,15 @@ def join_path(names):
     return _ROOT + "/".join(names)
 
 
+def is_path(thing):
+    """Tell whether any object is a path."""
+    try:
+        split_path(thing)
+    except BadPath:
+        return False
+    return True
+
+
 def is_within(path, other):
     """Tell whether a path is within another path."""
     names = split_path(path)
@@ -35,7 +45,7 @@ def is_within(path, other):
 
 
 def _are_names(things):
-    return len(things) <= _NAMES_MOST and all([_is_name(thing) for thing in things])
+    return len(things) <= NAMES_MOST and all([_is_name(thing) for thing in things])
 
 
 def _is_name(thing):

@@ -1,5 +1,6 @@
 """Things that several tests pass to the program."""
 
+from appendhall.disk import Disk
 from appendhall.errors import PowerLoss
 
 MOST = 10 ** 18
@@ -49,6 +50,22 @@ class Agreeable:
 
     def __ne__(self, other):
         return False
+
+
+class SpyDisk(Disk):
+    """A disk that keeps what is done to it."""
+
+    def __init__(self):
+        super().__init__()
+        self.done = []
+
+    def write(self, at, block):
+        super().write(at, block)
+        self.done.append((at, block))
+
+    def sync(self):
+        self.done.append("sync")
+        super().sync()
 
 
 def odd_things():

@@ -20,6 +20,9 @@ FUNCTIONS = {
         "best": "(candidates)",
     },
     "paths": {"split_path": "(path)", "join_path": "(names)", "is_within": "(path, other)"},
+    "deeds": {"apply_deed": "(tree, stamp, deed)"},
+    "queries": {"answer_query": "(tree, query)"},
+    "images": {"tree_image": "(tree)", "tree_from_image": "(image)"},
 }
 
 CLASSES = {
@@ -54,6 +57,21 @@ CLASSES = {
         "Directory": {
             "__init__": "(self)", "set_limit": "(self, most)", "names": "(self)", "child": "(self, name)",
             "put": "(self, name, number)", "take": "(self, name)", "limit": property,
+        },
+    },
+    "tree": {
+        "Tree": {
+            "__init__": "(self)", "__len__": "(self)", "node": "(self, number)",
+            "attach": "(self, parent, name, node)", "move_node": "(self, number, parent, name)",
+            "look_up": "(self, names)", "names_of": "(self, number)", "above": "(self, number)",
+            "size_of": "(self, number)", "height_of": "(self, number)",
+        },
+    },
+    "space": {
+        "Space": {
+            "__init__": "(self)", "apply": "(self, record)", "last_serial": "(self, client)",
+            "last_answer": "(self, client)", "query": "(self, query)", "to_image": "(self)",
+            "from_image": "static (value)", "applied": property,
         },
     },
 }

@@ -14,6 +14,13 @@ BUILTINS = [
     "staticmethod", "ValueError",
 ]
 
+# L17.
+WORDS = [
+    "register", "mro", "elements", "open", "input", "law", "version_info", "with_traceback", "add_note", "compile",
+    "dir", "eval", "exec", "exit", "gc", "globals", "help", "id", "license", "locals", "os", "quit", "super", "sys",
+    "type", "vars", "typing", "enum", "namedtuple", "dataclass",
+]
+
 UNUSED = (ast.AsyncFunctionDef, ast.AsyncFor, ast.AsyncWith, ast.Await, ast.Global, ast.Div)
 
 
@@ -96,6 +103,46 @@ class LanguageTest(unittest.TestCase):
             for sign, right in zip(node.ops, node.comparators):
                 if isinstance(sign, (ast.Is, ast.IsNot)):
                     self.assertIn(right.value, (None, True, False))
+
+    def test_l16_no_two_files_import_from_each_other(self):
+        imported = {path.stem: set() for path in sources()}
+        for name, node in nodes(ast.ImportFrom):
+            imported[name[:-3]].add(node.module.split(".")[1])
+        ordered = []
+        while len(ordered) < len(imported):
+            ready = [name for name in imported if name not in ordered and imported[name] <= set(ordered)]
+            self.assertNotEqual(ready, [])
+            ordered += ready
+
+    def test_l12_l17_names(self):
+        names = [(name, node.id) for name, node in nodes(ast.Name)]
+        names += [(name, node.arg) for name, node in nodes(ast.arg, ast.keyword)]
+        names += [(name, node.attr) for name, node in nodes(ast.Attribute)]
+        names += [(name, node.name) for name, node in nodes(ast.FunctionDef, ast.ClassDef)]
+        for file, name in names:
+            with self.subTest(file=file, name=name):
+                self.assertRegex(name, "^(_|_?[A-Za-z][A-Za-z0-9_]*|__[a-z]+__)$")
+                self.assertNotIn(name, WORDS)
+                self.assertNotIn(name.rstrip("0123456789_"), ["_cold", "_outside", "_record", "_written_out"])
+
+    def test_l5_l18_a_property_has_a_name_of_its_own(self):
+        functions = list(nodes(ast.FunctionDef))
+        kinds = {"property": set(), "staticmethod": set(), "": set()}
+        for _, node in functions:
+            kinds[node.decorator_list[0].id if node.decorator_list else ""].add(node.name)
+        assigned = {node.attr for _, node in nodes(ast.Attribute) if isinstance(node.ctx, ast.Store)}
+        for one in ("property", "staticmethod"):
+            self.assertEqual(kinds[one] & (kinds[""] | assigned), set())
+        self.assertEqual(kinds["property"] & kinds["staticmethod"], set())
+
+    def test_l18_no_name_is_a_method_and_an_attribute_of_one_class(self):
+        for name, node in nodes(ast.ClassDef):
+            methods = [inner.name for inner in node.body if isinstance(inner, ast.FunctionDef)]
+            assigned = [inner.attr for inner in ast.walk(node)
+                        if isinstance(inner, ast.Attribute) and isinstance(inner.ctx, ast.Store)]
+            with self.subTest(file=name, name=node.name):
+                self.assertEqual(len(methods), len(set(methods)))
+                self.assertEqual(set(methods) & set(assigned), set())
 
     def test_l27_strings(self):
         for name, node in nodes(ast.Constant):

@@ -2,7 +2,7 @@ import itertools
 import unittest
 
 from appendhall.errors import BadPath
-from appendhall.paths import is_within, join_path, split_path
+from appendhall.paths import is_path, is_within, join_path, split_path
 from tests.samples import INTEGERS, Touchy, nested, odd_things
 
 NAMES = ["a", "z", "0", "9", "-", "a.", ".a", "...", "-.", "notes", "day-1", "x" * 12, "." * 12, "a.b-c.d-1", "..a"]
@@ -74,6 +74,17 @@ class SplitTest(unittest.TestCase):
         names = split_path("/a/b")
         names.clear()
         self.assertEqual(split_path("/a/b"), ["a", "b"])
+
+
+class IsPathTest(unittest.TestCase):
+    def test_4_2_paths(self):
+        for path in ["/"] + ["/" + name for name in NAMES] + ["/a" * count for count in range(1, 7)]:
+            self.assertIs(is_path(path), True)
+
+    def test_4_2_what_is_no_path(self):
+        for at, thing in enumerate(NO_PATHS + OTHER_THINGS + odd_things()):
+            with self.subTest(at=at):
+                self.assertIs(is_path(thing), False)
 
 
 class JoinTest(unittest.TestCase):

@@ -7,26 +7,12 @@ from appendhall.errors import BadBlock, BadValue, PowerLoss
 from appendhall.frames import frame_blocks, read_frame
 from appendhall.tape import Tape
 from appendhall.words import to_words
-from tests.samples import BEYOND, MOST, NO_TEXTS, VALUES, disk_state, doubled, fates_of, nested, odd_things
+from tests.samples import (
+    BEYOND, MOST, NO_TEXTS, VALUES, SpyDisk, disk_state, doubled, fates_of, nested, odd_things,
+)
 
 # Entries of one, two and three blocks.
 ONE, TWO, THREE = "one", ("two", 1, 2, 3), tuple(range(11))
-
-
-class SpyDisk(Disk):
-    """A disk that keeps what is done to it."""
-
-    def __init__(self):
-        super().__init__()
-        self.done = []
-
-    def write(self, at, block):
-        super().write(at, block)
-        self.done.append((at, block))
-
-    def sync(self):
-        self.done.append("sync")
-        super().sync()
 
 
 def put(disk, blocks):
