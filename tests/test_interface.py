@@ -23,6 +23,8 @@ FUNCTIONS = {
     "deeds": {"apply_deed": "(tree, stamp, deed)"},
     "queries": {"answer_query": "(tree, query)"},
     "images": {"tree_image": "(tree)", "tree_from_image": "(image)"},
+    "epochs": {"owner": "(epoch, managers)", "next_epoch": "(seen, number, managers)"},
+    "replay": {"replay": "(log)", "tail_serial": "(log, space, client)"},
 }
 
 CLASSES = {
@@ -72,6 +74,28 @@ CLASSES = {
             "__init__": "(self)", "apply": "(self, record)", "last_serial": "(self, client)",
             "last_answer": "(self, client)", "query": "(self, query)", "to_image": "(self)",
             "from_image": "static (value)", "applied": property,
+        },
+    },
+    "journal": {
+        "Journal": {"__init__": "(self, number, disk)", "handle": "(self, body)", "log": property},
+    },
+    "election": {
+        "Election": {
+            "__init__": "(self, journals)", "note": "(self, journal, epoch, log)", "promised": "(self, journal)",
+            "decided": "(self)", "choice": "(self)",
+        },
+    },
+    "replication": {
+        "Replication": {
+            "__init__": "(self, epoch, log, journals)", "note": "(self, journal, length)",
+            "matched": "(self, journal)", "synced": "(self)", "commit_point": "(self)", "put": "(self, record)",
+            "cut": "(self, number, image)", "sync_body": "(self)", "missing": "(self, journal)", "log": property,
+        },
+    },
+    "reads": {
+        "Reads": {
+            "__init__": "(self, journals)", "ask": "(self, client, rid, query)", "note": "(self, token, journal)",
+            "unanswered": "(self)",
         },
     },
 }
