@@ -19,20 +19,25 @@ _FORMS = {
 }
 
 
+def item_kinds(word):
+    """Return the kinds of the items behind the word of a form, or None if it is the word of none."""
+    return _FORMS.get(word)
+
+
 def has_form(thing):
     """Tell whether any object is a deed of one of the seven forms."""
-    if not is_deed(thing) or thing[0] not in _FORMS:
+    if not is_deed(thing):
         return False
-    kinds = _FORMS[thing[0]]
+    kinds = item_kinds(thing[0])
     items = thing[1:]
-    if len(items) != len(kinds):
+    if kinds is None or len(items) != len(kinds):
         return False
     return all([_fits(item, kind) for item, kind in zip(items, kinds)])
 
 
 def paths_of(deed):
     """Return the items of a deed of one of the seven forms that must be paths."""
-    return [item for item, kind in zip(deed[1:], _FORMS[deed[0]]) if kind == "path"]
+    return [item for item, kind in zip(deed[1:], item_kinds(deed[0])) if kind == "path"]
 
 
 def _fits(item, kind):

@@ -4,6 +4,16 @@ import importlib
 import inspect
 import unittest
 
+from appendhall.client import Client
+from appendhall.disk import Disk
+from appendhall.election import Election
+from appendhall.journal import Journal
+from appendhall.log import Log
+from appendhall.manager import Manager
+from appendhall.network import Network
+from appendhall.reads import Reads
+from appendhall.replication import Replication
+
 FUNCTIONS = {
     "values": {
         "is_integer": "(thing)", "is_number": "(thing)", "is_text": "(thing)", "is_value": "(thing)",
@@ -25,6 +35,10 @@ FUNCTIONS = {
     "images": {"tree_image": "(tree)", "tree_from_image": "(image)"},
     "epochs": {"owner": "(epoch, managers)", "next_epoch": "(seen, number, managers)"},
     "replay": {"replay": "(log)", "tail_serial": "(log, space, client)"},
+    "commands": {"parse_command": "(line)", "format_command": "(deed)"},
+    "messages": {
+        "is_machine": "(thing)", "is_message": "(thing)", "is_body": "(sender, receiver, body)",
+    },
 }
 
 CLASSES = {
@@ -98,7 +112,38 @@ CLASSES = {
             "unanswered": "(self)",
         },
     },
+    "manager": {
+        "Manager": {
+            "__init__": "(self, number, disk, *, managers, journals)", "campaign": "(self)",
+            "handle": "(self, sender, body)", "checkpoint": "(self)", "resend": "(self)",
+            "log": property, "commit": property,
+        },
+    },
+    "client": {
+        "Client": {
+            "__init__": "(self, number, disk)", "ask": "(self, deed)", "look": "(self, query)", "request": "(self)",
+            "read": "(self)", "handle": "(self, body)",
+        },
+    },
+    "network": {
+        "Network": {
+            "__init__": "(self)", "send": "(self, message)", "message": "(self, number)", "drop": "(self, number)",
+            "numbers": "(self)", "__len__": "(self)", "__iter__": "(self)",
+        },
+    },
 }
+
+# The fields of new objects.
+FIELDS = [
+    (lambda: Journal(5, Disk()), {"number": 5, "promise": 0, "epoch": 0}),
+    (lambda: Election(3), {"journals": 3}),
+    (lambda: Replication(4, Log(0, "", ()), 3), {"epoch": 4, "journals": 3}),
+    (lambda: Reads(3), {"journals": 3}),
+    (lambda: Manager(1, Disk(), managers=2, journals=3),
+     {"number": 1, "managers": 2, "journals": 3, "role": "idle", "epoch": 0, "seen": 0}),
+    (lambda: Client(4, Disk()), {"number": 4, "serial": 0, "deed": None, "rid": 0}),
+    (lambda: Network(), {"sent": 0}),
+]
 
 
 class InterfaceTest(unittest.TestCase):
@@ -118,6 +163,12 @@ class InterfaceTest(unittest.TestCase):
                 for member, wanted in members.items():
                     with self.subTest(module=module, name=name, member=member):
                         self.check_member(vars(found)[member], wanted)
+
+    def test_fields(self):
+        for make, fields in FIELDS:
+            thing = make()
+            with self.subTest(name=type(thing).__name__):
+                self.assertEqual({name: vars(thing)[name] for name in fields}, fields)
 
     def check_member(self, member, wanted):
         if wanted is property:
