@@ -7,6 +7,7 @@ import unittest
 from appendhall.client import Client
 from appendhall.disk import Disk
 from appendhall.election import Election
+from appendhall.hall import Hall
 from appendhall.journal import Journal
 from appendhall.log import Log
 from appendhall.manager import Manager
@@ -39,6 +40,10 @@ FUNCTIONS = {
     "messages": {
         "is_machine": "(thing)", "is_message": "(thing)", "is_body": "(sender, receiver, body)",
     },
+    "scenario": {"perform": "(hall, deed)", "run": "(hall, deeds)"},
+    "settle": {"settle": "(hall)"},
+    "recovery": {"recover": "(disks, *, journals)"},
+    "audit": {"audit": "(events, space)"},
 }
 
 CLASSES = {
@@ -131,6 +136,21 @@ CLASSES = {
             "numbers": "(self)", "__len__": "(self)", "__iter__": "(self)",
         },
     },
+    "book": {
+        "Book": {
+            "__init__": "(self)", "note": "(self, event)", "events": "(self)", "__len__": "(self)", "__iter__": "(self)",
+        },
+    },
+    "hall": {
+        "Hall": {
+            "__init__": "(self, *, journals=3, managers=2, clients=2)", "machines": "(self)", "intact": "(self)",
+            "is_up": "(self, machine)", "running": "(self, machine)", "disk": "(self, machine)",
+            "ask": "(self, client, deed)", "look": "(self, client, query)", "send": "(self, client, manager)",
+            "campaign": "(self, manager)", "resend": "(self, manager)", "checkpoint": "(self, manager)",
+            "deliver": "(self, number)", "drop": "(self, number)", "stop": "(self, machine)", "start": "(self, machine)",
+            "arm": "(self, machine, fates, *, after=0)", "disarm": "(self, machine)", "destroy": "(self, journal)",
+        },
+    },
 }
 
 # The fields of new objects.
@@ -143,6 +163,7 @@ FIELDS = [
      {"number": 1, "managers": 2, "journals": 3, "role": "idle", "epoch": 0, "seen": 0}),
     (lambda: Client(4, Disk()), {"number": 4, "serial": 0, "deed": None, "rid": 0}),
     (lambda: Network(), {"sent": 0}),
+    (lambda: Hall(), {"counts": {"journal": 3, "manager": 2, "client": 2}}),
 ]
 
 
