@@ -70,7 +70,7 @@ class Trail:
         """Return the word if the space does not have a piece as it was told."""
         _, number, node, offset = answer
         ahead = 0
-        for piece in self._pieces(node):
+        for piece in self._pieces_of(node):
             if piece[1:3] == wanted[1:3]:
                 if piece != wanted or ahead != offset:
                     return "changed"
@@ -92,9 +92,9 @@ class Trail:
         return None
 
     def _pieces_up_to(self, number, node):
-        return tuple([piece for piece in self._pieces(node) if piece[0] <= number])
+        return tuple([piece for piece in self._pieces_of(node) if piece[0] <= number])
 
-    def _pieces(self, node):
+    def _pieces_of(self, node):
         """Return the pieces of a file, none if there is no file with this number."""
         answer = self._space.query(("content", node))
         if answer[0] != "content":

@@ -215,5 +215,137 @@ class WholeTest(unittest.TestCase):
             row.check_book()
 
 
+class CutOffTest(unittest.TestCase):
+    """Halls in which some messages arrive at some of the journals alone."""
+
+    def deliver_among(self, hall, machines):
+        """Deliver the messages between these machines until there is none, and drop all others."""
+        while hall.network.numbers():
+            number = hall.network.numbers()[0]
+            sender, receiver, _ = hall.network.message(number)
+            if sender in machines and receiver in machines:
+                hall.deliver(number)
+            hall.drop(number)
+
+    def among(self, manager, *journals):
+        return [("manager", manager), ("client", 0), ("client", 1)] + [("journal", number) for number in journals]
+
+    def do(self, hall, machines, act, *items):
+        act(*items)
+        self.deliver_among(hall, machines)
+
+    def lead(self, hall, machines, manager):
+        """Campaign until the manager leads; the first refusals tell it the epoch that it must exceed."""
+        for _ in range(2):
+            if hall.running(("manager", manager)).role != "leading":
+                self.do(hall, machines, hall.campaign, manager)
+        self.assertEqual(hall.running(("manager", manager)).role, "leading")
+
+    def hall(self):
+        """Manager 0 leads, and all journals have one file."""
+        hall = Hall(journals=3, managers=2, clients=2)
+        everyone = hall.machines()
+        self.do(hall, everyone, hall.campaign, 0)
+        hall.ask(0, ("create", "/a"))
+        self.do(hall, everyone, hall.send, 0, 0)
+        self.assertEqual(hall.book.events()[-1], ("answered", 0, 1, ("made", 1)))
+        return hall
+
+    def check(self, hall):
+        for numbers in itertools.combinations(hall.intact(), 2):
+            log = recover([hall.disk(("journal", number)) for number in numbers], journals=3)
+            self.assertEqual(audit(hall.book.events(), replay(log)), [])
+
+    def test_0_3_a_manager_that_is_cut_off_tells_nothing_old(self):
+        hall = self.hall()
+        later = self.among(1, 1, 2)
+        self.lead(hall, later, 1)
+        hall.ask(1, ("append", "/a", "new"))
+        self.do(hall, later, hall.send, 1, 1)
+        self.assertEqual(hall.book.events()[-1], ("answered", 1, 1, ("written", 2, 1, 0)))
+        # Manager 0 still leads by itself, and journal 0 still answers it.
+        self.assertEqual(hall.running(("manager", 0)).role, "leading")
+        hall.look(0, ("content", 1))
+        self.do(hall, self.among(0, 0), hall.send, 0, 0)
+        self.assertEqual(hall.book.events()[-1], ("looked", 0, 1, ("content", 1)))
+        self.do(hall, hall.machines(), hall.resend, 0)
+        self.assertEqual(hall.book.events()[-1], ("looked", 0, 1, ("content", 1)))
+        self.assertEqual(hall.running(("manager", 0)).role, "idle")
+        self.do(hall, hall.machines(), hall.send, 0, 1)
+        self.assertEqual(hall.book.events()[-1], ("seen", 0, 1, 2, ("content", 1, 0, ((2, 1, 1, "new"),))))
+        self.check(hall)
+
+    def test_0_3_a_longer_log_of_an_older_epoch_does_not_win(self):
+        hall = self.hall()
+        for client in (0, 1):
+            hall.ask(client, ("append", "/a", f"old {client}"))
+            self.do(hall, self.among(0, 0), hall.send, client, 0)
+        later = self.among(1, 1, 2)
+        self.lead(hall, later, 1)
+        self.do(hall, later, hall.send, 1, 1)
+        self.assertEqual(hall.book.events()[-1], ("answered", 1, 1, ("written", 2, 1, 0)))
+        self.assertEqual([hall.running(("journal", number)).log.length for number in range(3)], [3, 2, 2])
+        hall.destroy(2)
+        self.assertGreater(settle(hall), 0)
+        told = [event[3] for event in hall.book.events() if event[0] == "answered"]
+        self.assertEqual(told, [("made", 1), ("written", 2, 1, 0), ("written", 3, 1, 5)])
+        self.check(hall)
+
+    def test_0_3_a_log_that_one_journal_has_is_not_committed(self):
+        hall = self.hall()
+        hall.ask(0, ("append", "/a", "old"))
+        self.do(hall, self.among(0, 0), hall.send, 0, 0)
+        self.do(hall, self.among(1, 2), hall.campaign, 1)
+        hall.campaign(1)
+        # Journals 0 and 1 promise, but only journal 0 gets the log.
+        promises = hall.network.numbers()
+        for number in promises[:2]:
+            hall.deliver(hall.deliver(number)[0])
+        sync = hall.network.numbers()[-3]
+        self.assertEqual(hall.network.message(sync)[2][0], "sync")
+        hall.deliver(hall.deliver(sync)[0])
+        self.assertEqual((hall.running(("manager", 1)).role, hall.running(("manager", 1)).commit), ("syncing", 0))
+        self.do(hall, [], hall.send, 0, 1)
+        # A manager that hears nothing of journal 0 begins without that record.
+        hall.stop(("journal", 0))
+        hall.stop(("manager", 0))
+        hall.start(("manager", 0))
+        self.lead(hall, self.among(0, 1, 2), 0)
+        self.assertEqual(hall.running(("manager", 0)).commit, 1)
+        hall.ask(1, ("append", "/a", "new"))
+        self.do(hall, self.among(0, 1, 2), hall.send, 1, 0)
+        self.assertEqual(hall.book.events()[-1], ("answered", 1, 1, ("written", 2, 1, 0)))
+        settle(hall)
+        self.assertEqual(hall.book.events()[-1], ("answered", 0, 2, ("written", 3, 1, 3)))
+        self.check(hall)
+
+    def test_0_3_a_request_that_two_managers_take_stands_once(self):
+        hall = self.hall()
+        hall.ask(0, ("append", "/a", "once"))
+        self.do(hall, self.among(0, 0, 1), hall.send, 0, 0)
+        for manager in (1, 0, 1):
+            hall.send(0, manager)
+            self.do(hall, hall.machines(), hall.campaign, manager)
+            self.do(hall, hall.machines(), hall.send, 0, manager)
+        settle(hall)
+        self.assertEqual([event[:3] for event in hall.book.events()].count(("answered", 0, 2)), 1)
+        for journal in range(3):
+            space = replay(hall.running(("journal", journal)).log)
+            self.assertEqual(space.query(("content", 1)), ("content", 1, 0, ((2, 0, 2, "once"),)))
+        self.check(hall)
+
+    def test_0_3_an_epoch_is_not_used_twice(self):
+        """A manager whose disk lost power in a campaign has sent nothing of this epoch."""
+        for fates in (0, 1, 2):
+            hall = self.hall()
+            hall.arm(("manager", 0), fates)
+            self.assertEqual(hall.campaign(0), [])
+            hall.start(("manager", 0))
+            self.do(hall, hall.machines(), hall.campaign, 0)
+            epoch = 6 if fates == 1 else 4
+            self.assertEqual((hall.running(("manager", 0)).role, hall.running(("manager", 0)).epoch), ("leading", epoch))
+            self.check(hall)
+
+
 if __name__ == "__main__":
     unittest.main()
