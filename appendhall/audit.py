@@ -68,7 +68,7 @@ class Trail:
 
     def _fault_of_piece(self, wanted, answer):
         """Return the word if the space does not have a piece as it was told."""
-        _, number, node, offset = answer
+        node, offset = answer[2:]
         ahead = 0
         for piece in self._pieces_of(node):
             if piece[1:3] == wanted[1:3]:

@@ -4,29 +4,21 @@ from appendhall.kinds import CLIENT, JOURNAL, MANAGER
 from appendhall.records import is_deed
 from appendhall.values import is_number
 
-# What an item of a body may be.
-_NUMBER = "number"
-_COUNT = "number from 1 on"
-_DEED = "deed"
-_LOG = "log value"
-_TUPLE = "tuple"
-_ANY = "anything"
-
-# For each word the sender, the receiver and the items behind the word.
+# For each word the kind of the sender, the kind of the receiver, and the kinds of the items behind the word.
 _FORMS = {
-    "promise": (MANAGER, JOURNAL, (_NUMBER,)),
-    "sync": (MANAGER, JOURNAL, (_NUMBER, _LOG)),
-    "edit": (MANAGER, JOURNAL, (_NUMBER, _COUNT, _TUPLE)),
-    "purge": (MANAGER, JOURNAL, (_NUMBER, _NUMBER, _ANY)),
-    "ping": (MANAGER, JOURNAL, (_NUMBER, _NUMBER)),
-    "promised": (JOURNAL, MANAGER, (_NUMBER, _NUMBER, _LOG)),
-    "synced": (JOURNAL, MANAGER, (_NUMBER, _NUMBER)),
-    "ponged": (JOURNAL, MANAGER, (_NUMBER, _NUMBER)),
-    "refused": (JOURNAL, MANAGER, (_NUMBER, _NUMBER)),
-    "request": (CLIENT, MANAGER, (_COUNT, _DEED)),
-    "read": (CLIENT, MANAGER, (_COUNT, _DEED)),
-    "answer": (MANAGER, CLIENT, (_COUNT, _ANY)),
-    "value": (MANAGER, CLIENT, (_COUNT, _NUMBER, _ANY)),
+    "promise": ("manager", "journal", ("number",)),
+    "sync": ("manager", "journal", ("number", "log")),
+    "edit": ("manager", "journal", ("number", "count", "tuple")),
+    "purge": ("manager", "journal", ("number", "number", "any")),
+    "ping": ("manager", "journal", ("number", "number")),
+    "promised": ("journal", "manager", ("number", "number", "log")),
+    "synced": ("journal", "manager", ("number", "number")),
+    "ponged": ("journal", "manager", ("number", "number")),
+    "refused": ("journal", "manager", ("number", "number")),
+    "request": ("client", "manager", ("count", "deed")),
+    "read": ("client", "manager", ("count", "deed")),
+    "answer": ("manager", "client", ("count", "any")),
+    "value": ("manager", "client", ("count", "number", "any")),
 }
 
 
@@ -65,15 +57,15 @@ def is_message(thing):
 
 
 def _fits(item, kind):
-    if kind == _NUMBER:
+    if kind == "number":
         return is_number(item)
-    if kind == _COUNT:
+    if kind == "count":
         return is_number(item) and item >= 1
-    if kind == _DEED:
+    if kind == "deed":
         return is_deed(item)
-    if kind == _LOG:
+    if kind == "log":
         return _is_log_value(item)
-    if kind == _TUPLE:
+    if kind == "tuple":
         return isinstance(item, tuple)
     return True
 

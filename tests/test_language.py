@@ -83,6 +83,20 @@ class LanguageTest(unittest.TestCase):
         for path, source in sources().items():
             self.assertEqual([char for char in source if not (char == "\n" or " " <= char <= "~")], [])
 
+    def test_l3_l15_values_at_module_level_are_plain(self):
+        plain = (ast.Constant, ast.Tuple, ast.List, ast.Dict, ast.Load, ast.BinOp, ast.operator, ast.UnaryOp, ast.USub)
+        for path, source in sources().items():
+            body = ast.parse(source).body
+            functions = [node.name for node in body if isinstance(node, ast.FunctionDef)]
+            for value in [node.value for node in body if isinstance(node, ast.Assign)]:
+                for inner in ast.walk(value):
+                    with self.subTest(file=path.name, line=value.lineno):
+                        if isinstance(inner, ast.Name):
+                            self.assertIn(inner.id, functions)
+                        else:
+                            self.assertIsInstance(inner, plain)
+                        self.assertTrue(inner is value or not isinstance(inner, (ast.List, ast.Dict)))
+
     def test_l15_no_name_is_bound_twice(self):
         for path, source in sources().items():
             bound = []
